@@ -178,31 +178,25 @@ class Between(unittest.TestCase):
         self.assertEqual(order_with("rank", rows).between(1, 2), rows[30:90])
         self.assertEqual(order_with("text", rows).between("q", "q"), rows[30:60])
 
-    def test_every_two_ranks(self):
-        for seed in range(4):
-            rows = samples.some_rows(seed + 40, 25 * seed)
-            order = order_with("rank", rows)
-            for low in samples.RANKS:
-                for high in samples.RANKS:
-                    self.assertEqual(order.between(low, high), samples.within("rank", rows, low, high))
+    def check_every_two(self, word, order, rows):
+        ends = samples.RANKS if word == "rank" else samples.TEXTS
+        for low in ends:
+            for high in ends:
+                self.assertEqual(order.between(low, high), samples.within(word, rows, low, high))
 
-    def test_every_two_texts(self):
-        for seed in range(4):
-            rows = samples.some_rows(seed + 50, 25 * seed)
-            order = order_with("text", rows)
-            for low in samples.TEXTS:
-                for high in samples.TEXTS:
-                    self.assertEqual(order.between(low, high), samples.within("text", rows, low, high))
+    def test_every_two_ranks_or_texts(self):
+        for word in samples.WORDS:
+            for seed in range(4):
+                rows = samples.some_rows(seed + 40, 25 * seed)
+                self.check_every_two(word, order_with(word, rows), rows)
 
     def test_behind_rows_let_out(self):
-        for word, ends in (("rank", samples.RANKS), ("text", samples.TEXTS)):
+        for word in samples.WORDS:
             rows = samples.some_rows(61, 100)
             order = order_with(word, rows)
             for row in rows[:70]:
                 order.let_out(row)
-            for low in ends:
-                for high in ends:
-                    self.assertEqual(order.between(low, high), samples.within(word, rows[70:], low, high))
+            self.check_every_two(word, order, rows[70:])
 
 
 if __name__ == "__main__":
