@@ -7,20 +7,7 @@ import unittest
 from twoorders.order import Order, order_with
 
 import samples
-
-
-class BlockCase(unittest.TestCase):
-    def check_blocks(self, order, expected):
-        """`expected`: all rows that must be there, in the order."""
-        blocks = order.blocks
-        self.assertIs(type(blocks), list)
-        for block in blocks:
-            self.assertIs(type(block), list)
-            self.assertGreaterEqual(len(block), 1, blocks)
-            self.assertLessEqual(len(block), 8, blocks)
-        for left, right in zip(blocks, blocks[1:]):
-            self.assertGreaterEqual(len(left) + len(right), 5, blocks)
-        self.assertEqual([row for block in blocks for row in block], expected)
+from cases import BlockCase
 
 
 def sequences(rows):
@@ -44,16 +31,16 @@ def sequences(rows):
 class UpAndDown(BlockCase):
     def go_up_and_down(self, word, coming, going):
         order = Order(word)
-        self.check_blocks(order, [])
+        self.check_blocks(order.blocks, [])
         there = []
         for row in coming:
             order.take_in(row)
             there = samples.in_order(word, there + [row])
-            self.check_blocks(order, there)
+            self.check_blocks(order.blocks, there)
         for row in going:
             order.let_out(row)
             there.remove(row)
-            self.check_blocks(order, there)
+            self.check_blocks(order.blocks, there)
         self.assertEqual(order.blocks, [])
 
     def test_each_way_up_with_each_way_down(self):
@@ -91,7 +78,7 @@ class UpAndDown(BlockCase):
                     row = there.pop(chance.randrange(len(there)))
                     order.let_out(row)
                     away.append(row)
-                self.check_blocks(order, there)
+                self.check_blocks(order.blocks, there)
 
 
 class AtOnce(BlockCase):
@@ -99,7 +86,7 @@ class AtOnce(BlockCase):
         for word in samples.WORDS:
             for many in range(140):
                 rows = samples.some_rows(many, many)
-                self.check_blocks(order_with(word, rows), samples.in_order(word, rows))
+                self.check_blocks(order_with(word, rows).blocks, samples.in_order(word, rows))
 
     def test_changes_behind_a_list(self):
         for word in samples.WORDS:
@@ -110,7 +97,7 @@ class AtOnce(BlockCase):
                 order.take_in(rows[130 + spot])
                 order.let_out(rows[spot])
                 there = [row for row in there if row != rows[spot]] + [rows[130 + spot]]
-                self.check_blocks(order, samples.in_order(word, there))
+                self.check_blocks(order.blocks, samples.in_order(word, there))
 
 
 class EveryShape(BlockCase):
@@ -127,14 +114,14 @@ class EveryShape(BlockCase):
         rank = (low + high) // 2
         other = copy.deepcopy(order)
         other.take_in((rank, rank, "t"))
-        self.check_blocks(other, rows[:spot] + [(rank, rank, "t")] + rows[spot:])
+        self.check_blocks(other.blocks, rows[:spot] + [(rank, rank, "t")] + rows[spot:])
         return other
 
     def after_letting_out(self, order, spot):
         rows = order.rows()
         other = copy.deepcopy(order)
         other.let_out(rows[spot])
-        self.check_blocks(other, rows[:spot] + rows[spot + 1:])
+        self.check_blocks(other.blocks, rows[:spot] + rows[spot + 1:])
         return other
 
     def next_orders(self, order):
